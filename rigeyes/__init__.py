@@ -1,0 +1,1 @@
+"""Rigeyes: many lookers about one place, and what they tell together."""

@@ -1,0 +1,67 @@
+"""Some rules of ../shared/LANGUAGE.md that can be seen from the files of the package alone."""
+
+import ast
+import pathlib
+import re
+import unittest
+
+PACKAGE = pathlib.Path(__file__).resolve().parent.parent / "rigeyes"
+FILES = sorted(PACKAGE.glob("*.py"))
+BARRED_WORDS = (
+    "type typing typing_extensions enum Enum IntEnum StrEnum Flag IntFlag Generic Protocol ABC ABCMeta"
+    " namedtuple NamedTuple TypedDict TYPE_CHECKING abstractmethod"
+).split()
+BARRED_PARTS = ("dataclass", "overload", "contextmanager")
+BARRED_NODES = (ast.Div, ast.Global, ast.Import, ast.AsyncFunctionDef, ast.Await)
+
+
+class Language(unittest.TestCase):
+    def each(self):
+        for path in FILES:
+            yield path.name, path.read_text(encoding="utf-8")
+
+    def nodes(self):
+        for name, text in self.each():
+            for node in ast.walk(ast.parse(text)):
+                yield name, node
+
+    def test_the_folder_has_nothing_but_files_of_the_package(self):
+        self.assertIn("__init__.py", [path.name for path in FILES])
+        for path in PACKAGE.iterdir():
+            if path.name != "__pycache__":
+                self.assertRegex(path.name, r"^(__init__|[a-z][a-z0-9_]*)\.py$")
+
+    def test_characters_and_sizes(self):
+        for name, text in self.each():
+            self.assertTrue(re.fullmatch(r"[ -~\n]*", text), name)
+            rows = text.split("\n")
+            self.assertLessEqual(len(rows), 400, name)
+            self.assertLessEqual(max(map(len, rows)), 120, name)
+
+    def test_functions_are_short(self):
+        for name, node in self.nodes():
+            if isinstance(node, ast.FunctionDef):
+                self.assertLessEqual(node.end_lineno - node.lineno + 1, 40, (name, node.name))
+
+    def test_barred_words(self):
+        for name, text in self.each():
+            found = set(re.findall(r"[A-Za-z0-9_]+", text))
+            self.assertEqual(found & set(BARRED_WORDS), set(), name)
+            for part in BARRED_PARTS:
+                self.assertNotIn(part, text, name)
+
+    def test_imports_are_from_the_package(self):
+        for name, node in self.nodes():
+            if isinstance(node, ast.ImportFrom):
+                self.assertEqual(node.level, 0, name)
+                self.assertRegex(node.module, r"^(rigeyes\.[a-z_]+|__future__)$", name)
+
+    def test_no_barred_statements_and_no_floats(self):
+        for name, node in self.nodes():
+            self.assertNotIsInstance(node, BARRED_NODES, name)
+            if isinstance(node, ast.Constant):
+                self.assertNotIsInstance(node.value, (float, complex), name)
+
+
+if __name__ == "__main__":
+    unittest.main()
