@@ -37,7 +37,7 @@ def meet(one, way, other, towards):
     """The only point on both the ray of one along way and that of other along towards, or None."""
     bend = turn(way, towards)
     if bend == 0:
-        # Rays of one line share either no point or, having no ends of their own, many.
+        # Parallel rays share no point; rays of one line none or many, never one, as their own points are not on them.
         return None
     gap, scale = apart(one, other)
     first, second = turn(gap, towards), turn(gap, way)
