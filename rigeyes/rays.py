@@ -1,21 +1,16 @@
 """Directions, rays, and where rays meet."""
 
-from rigeyes.whole import common_divisor, is_whole, less, lowest
+from rigeyes.things import is_row
+from rigeyes.whole import common_divisor, is_within, less, lowest
 
 FARTHEST = 200
 
 
 def is_direction(thing):
     """Whether thing, which is anything, is a direction."""
-    if not isinstance(thing, tuple) or len(thing) != 2:
+    if not is_row(thing, 2) or not all([is_within(part, -FARTHEST, FARTHEST) for part in thing]):
         return False
-    dx, dy = thing
-    return is_part(dx) and is_part(dy) and common_divisor(dx, dy) == 1
-
-
-def is_part(thing):
-    """Whether thing may stand in a direction."""
-    return is_whole(thing) and -FARTHEST <= thing <= FARTHEST
+    return common_divisor(thing[0], thing[1]) == 1
 
 
 def direction(one, other):

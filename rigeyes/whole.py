@@ -6,6 +6,11 @@ def is_whole(thing):
     return isinstance(thing, int) and not isinstance(thing, bool)
 
 
+def is_within(thing, least, greatest):
+    """Whether thing, which is anything, is a whole number from least to greatest."""
+    return is_whole(thing) and least <= thing <= greatest
+
+
 def common_divisor(one, other):
     """The greatest number that divides both, at least 0; it is 0 only of 0 and 0."""
     one, other = abs(one), abs(other)

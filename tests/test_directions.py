@@ -5,20 +5,8 @@ import math
 import unittest
 from fractions import Fraction
 
+from helper import GREAT, nested, whole
 from rigeyes.rays import direction, is_direction
-
-GREAT = 10**40 - 1
-
-
-def whole(x, y):
-    return ((x, 1), (y, 1))
-
-
-def nested(inmost, kind, depth):
-    thing = inmost
-    for _ in range(depth):
-        thing = kind([thing])
-    return thing
 
 
 class IsDirection(unittest.TestCase):

@@ -1,6 +1,7 @@
 """Some rules of ../shared/LANGUAGE.md that can be seen from the files of the package alone."""
 
 import ast
+import builtins
 import pathlib
 import re
 import unittest
@@ -12,6 +13,10 @@ BARRED_WORDS = (
     " namedtuple NamedTuple TypedDict TYPE_CHECKING abstractmethod"
 ).split()
 BARRED_PARTS = ("dataclass", "overload", "contextmanager")
+ALLOWED_BUILTINS = (
+    "len range enumerate zip min max sum abs sorted reversed int str bool bytes list tuple dict set isinstance ord"
+    " repr any all divmod ValueError"
+).split()
 BARRED_NODES = (ast.Div, ast.Global, ast.Import, ast.AsyncFunctionDef, ast.Await)
 
 
@@ -61,6 +66,31 @@ class Language(unittest.TestCase):
             self.assertNotIsInstance(node, BARRED_NODES, name)
             if isinstance(node, ast.Constant):
                 self.assertNotIsInstance(node.value, (float, complex), name)
+
+    def test_names_do_not_begin_with_an_underscore_or_hide_a_builtin(self):
+        for name, node in self.nodes():
+            bound = []
+            if isinstance(node, ast.Name) and isinstance(node.ctx, ast.Store):
+                bound = [node.id]
+            if isinstance(node, ast.arg):
+                bound = [node.arg]
+            for each in bound:
+                self.assertFalse(each.startswith("_"), (name, each))
+                self.assertFalse(hasattr(builtins, each), (name, each))
+
+    def test_no_other_builtins_are_used(self):
+        for name, node in self.nodes():
+            if isinstance(node, ast.Name) and hasattr(builtins, node.id):
+                self.assertIn(node.id, ALLOWED_BUILTINS, name)
+
+    def test_no_generators_where_lists_are_due(self):
+        for name, node in self.nodes():
+            self.assertNotIsInstance(node, ast.GeneratorExp, name)
+
+    def test_strings_have_no_percent_sign(self):
+        for name, node in self.nodes():
+            if isinstance(node, ast.Constant) and isinstance(node.value, str):
+                self.assertNotIn("%", node.value, name)
 
 
 if __name__ == "__main__":

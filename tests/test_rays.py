@@ -5,9 +5,9 @@ import math
 import unittest
 from fractions import Fraction
 
+from helper import GREAT, told, whole
 from rigeyes.rays import direction, is_on, meet, stand
 
-GREAT = 10**40 - 1
 WAYS = [(dx, dy) for dx in range(-2, 3) for dy in range(-2, 3) if math.gcd(dx, dy) == 1]
 POINTS = [
     ((0, 1), (0, 1)),
@@ -19,16 +19,8 @@ POINTS = [
 ]
 
 
-def whole(x, y):
-    return ((x, 1), (y, 1))
-
-
 def worth(point):
     return Fraction(*point[0]), Fraction(*point[1])
-
-
-def told(x, y):
-    return ((x.numerator, x.denominator), (y.numerator, y.denominator))
 
 
 def plainly_on(point, way, other):

@@ -3,9 +3,8 @@
 import math
 import unittest
 
+from helper import GREAT
 from rigeyes.whole import common_divisor, is_whole, less, lowest
-
-GREAT = 10**40 - 1
 
 
 class Whole(unittest.TestCase):
