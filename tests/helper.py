@@ -1,5 +1,6 @@
 """What several tests need: things of all kinds, surveys made by hand, and plain fractions to check against."""
 
+import functools
 import itertools
 import math
 import random
@@ -139,3 +140,38 @@ def plainly_odd(survey):
     found = plainly_found(survey)
     return sorted((looker, mark) for looker, mark, way in survey[1] if looker in found and mark in found
                   and not plainly_on(found[looker][0], way, found[mark][0]))
+
+
+def random_room(chance, longest=6):
+    """A room of whichever size, with few walls or many."""
+    wide, high, walls = chance.randint(1, longest), chance.randint(1, longest), chance.choice((0, 1, 2, 4))
+    rows = [[chance.choice("#" * walls + "." * 6) for _ in range(wide)] for _ in range(high)]
+    rows[chance.randrange(high)][chance.randrange(wide)] = "."
+    return tuple("".join(row) for row in rows)
+
+
+def open_cells(room):
+    return [(x, y) for x in range(len(room[0])) for y in range(len(room)) if room[y][x] == "."]
+
+
+def part_within(start, end, least, greatest):
+    """(from, to), parts of the way, 0 to 1: there what goes from start to end is within these, ends too; or None."""
+    if start == end:
+        return (0, 1) if least <= start <= greatest else None
+    times = sorted(Fraction(bound - start, end - start) for bound in (least, greatest))
+    low, high = max(times[0], 0), min(times[1], 1)
+    return (low, high) if low <= high else None
+
+
+@functools.cache
+def plainly_seen(room, cell, other):
+    """Whether the way between the middles has no point in a wall, by the parts of it that lie within its sides."""
+    if cell == other:
+        return False
+    (a, b), (c, d) = [[2 * part + 1 for part in each] for each in (cell, other)]
+    walls = [(x, y) for y, row in enumerate(room) for x, sign in enumerate(row) if sign == "#"]
+    for x, y in walls:
+        across, down = part_within(a, c, 2 * x, 2 * x + 2), part_within(b, d, 2 * y, 2 * y + 2)
+        if across and down and max(across[0], down[0]) <= min(across[1], down[1]):
+            return False
+    return True

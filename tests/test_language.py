@@ -18,6 +18,8 @@ ALLOWED_BUILTINS = (
     " repr any all divmod ValueError"
 ).split()
 BARRED_NODES = (ast.Div, ast.Global, ast.Import, ast.AsyncFunctionDef, ast.Await)
+ALLOWED_METHODS = "append items setdefault update add".split()
+ALLOWED_DOUBLES = "__init__ __eq__ __len__".split()
 
 
 class Language(unittest.TestCase):
@@ -86,6 +88,58 @@ class Language(unittest.TestCase):
     def test_no_generators_where_lists_are_due(self):
         for name, node in self.nodes():
             self.assertNotIsInstance(node, ast.GeneratorExp, name)
+
+    def test_is_stands_beside_none_alone(self):
+        for name, node in self.nodes():
+            if isinstance(node, ast.Compare):
+                for sign, other in zip(node.ops, node.comparators):
+                    if isinstance(sign, (ast.Is, ast.IsNot)):
+                        self.assertIsInstance(other, ast.Constant, name)
+                        self.assertIn(other.value, (None, True, False), name)
+
+    def test_imports_name_the_very_file_and_are_used(self):
+        for name, text in self.each():
+            module = ast.parse(text)
+            read = {node.id for node in ast.walk(module) if isinstance(node, ast.Name)}
+            for node in module.body:
+                if isinstance(node, ast.ImportFrom):
+                    other = ast.parse((PACKAGE / (node.module.split(".")[1] + ".py")).read_text(encoding="utf-8"))
+                    there = {each.name for each in other.body if isinstance(each, (ast.FunctionDef, ast.ClassDef))}
+                    for each in node.names:
+                        self.assertIsNone(each.asname, name)
+                        self.assertIn(each.name, there, name)
+                        self.assertIn(each.name, read, name)
+
+    def test_no_local_name_is_that_of_an_import_a_class_or_a_function(self):
+        for name, text in self.each():
+            module = ast.parse(text)
+            kinds = (ast.FunctionDef, ast.ClassDef)
+            taken = {each.name for each in module.body if isinstance(each, kinds)}
+            taken |= {each.name for node in module.body if isinstance(node, ast.ImportFrom) for each in node.names}
+            for node in ast.walk(module):
+                if isinstance(node, ast.arg):
+                    self.assertNotIn(node.arg, taken, name)
+                if isinstance(node, ast.Name) and isinstance(node.ctx, ast.Store):
+                    self.assertNotIn(node.id, taken, name)
+
+    def test_methods_that_are_called_and_defined(self):
+        own = [each for name, node in self.nodes() if isinstance(node, ast.ClassDef) for each in node.body
+               if isinstance(each, ast.FunctionDef)]
+        for each in own:
+            self.assertEqual(each.decorator_list, [])
+            if each.name.startswith("_"):
+                self.assertIn(each.name, ALLOWED_DOUBLES)
+        names = [each.name for each in own] + ALLOWED_METHODS
+        for name, node in self.nodes():
+            if isinstance(node, ast.Call) and isinstance(node.func, ast.Attribute):
+                self.assertIn(node.func.attr, names, name)
+
+    def test_no_name_is_both_a_method_and_an_attribute(self):
+        methods = {each.name for name, node in self.nodes() if isinstance(node, ast.ClassDef) for each in node.body
+                   if isinstance(each, ast.FunctionDef)}
+        stored = {node.attr for name, node in self.nodes()
+                  if isinstance(node, ast.Attribute) and isinstance(node.ctx, ast.Store)}
+        self.assertEqual(methods & stored, set())
 
     def test_strings_have_no_percent_sign(self):
         for name, node in self.nodes():
